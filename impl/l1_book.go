@@ -77,6 +77,12 @@ type thing struct {
 	name string
 }
 
+// numbered is the key under which a copy of a book is found.
+type numbered struct {
+	service string
+	number  int
+}
+
 // StewValid says whether a book is valid.
 func StewValid(b StewBook) bool {
 	// The sizes come ahead of the lists, so that a book that is far too long
@@ -223,6 +229,31 @@ func placesIn(b StewBook) map[thing]int {
 		places[thing{berthThing, berth.Name}] = i
 	}
 	return places
+}
+
+// copyPlaces tells at which place of its list each copy is.
+func copyPlaces(b StewBook) map[numbered]int {
+	places := make(map[numbered]int, len(b.Copies))
+	for i, c := range b.Copies {
+		places[numbered{c.Service, c.Number}] = i
+	}
+	return places
+}
+
+// freshBook is b in memory of its own.
+func freshBook(b StewBook) StewBook {
+	return StewBook{
+		Now:      b.Now,
+		Services: fresh(b.Services),
+		Copies:   fresh(b.Copies),
+		Berths:   fresh(b.Berths),
+	}
+}
+
+// fresh starts from nil, as a copy by cutting the list down to nothing would
+// still point into the memory of an empty one.
+func fresh[T any](list []T) []T {
+	return append([]T(nil), list...)
 }
 
 func isName(text string) bool {

@@ -1,6 +1,10 @@
 package impl
 
-import "iter"
+import (
+	"cmp"
+	"iter"
+	"slices"
+)
 
 // StewCount is how many copies of a service there are.
 type StewCount struct {
@@ -45,11 +49,15 @@ func countCopies(b StewBook, s StewService) StewCount {
 	return n
 }
 
-// copiesIn walks over the copies of a service, in their order.
+// copiesIn walks over the copies of a service, in their order. It passes over
+// all others: in a valid book those of a service stand together.
 func copiesIn(b StewBook, service string) iter.Seq[StewCopy] {
 	return func(yield func(StewCopy) bool) {
-		for _, c := range b.Copies {
-			if c.Service == service && !yield(c) {
+		first, _ := slices.BinarySearchFunc(b.Copies, service, func(c StewCopy, name string) int {
+			return cmp.Compare(c.Service, name)
+		})
+		for _, c := range b.Copies[first:] {
+			if c.Service != service || !yield(c) {
 				return
 			}
 		}
